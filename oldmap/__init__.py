@@ -1,0 +1,1 @@
+"""Where an old map can lead, and where to dig."""
