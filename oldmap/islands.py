@@ -58,7 +58,7 @@ class Island:
     def __contains__(self, cell):
         return _lies_within(self._rows, cell) and self._rows[cell[0]][cell[1]] != WATER
 
-    # Without this, Python would iterate by __getitem__.
+    # Without this, Python would iterate by indexes 0, 1, 2 and so on.
     def __iter__(self):
         raise TypeError("an island cannot be iterated over")
 

@@ -65,7 +65,7 @@ class Map:
     def __getitem__(self, index):
         return self._instructions[index]
 
-    # Without this, Python would iterate by __getitem__.
+    # Without this, Python would iterate by indexes 0, 1, 2 and so on.
     def __iter__(self):
         raise TypeError("a chart cannot be iterated over")
 
