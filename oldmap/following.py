@@ -1,7 +1,7 @@
 """Following a chart in all ways at once."""
 
 from oldmap.islands import require_land
-from oldmap.leading import led_to
+from oldmap.steps import Steps
 
 
 def begin_states(chart):
@@ -13,7 +13,7 @@ def begin_states(chart):
 
 def final_states(chart):
     """The ascending list of all states at the end of all instructions."""
-    return followed(chart, begin_states(chart))[-1]
+    return Steps(chart.island.rows).ends(chart.instructions, begin_states(chart))
 
 
 def places(chart):
@@ -23,7 +23,7 @@ def places(chart):
 
 def impossible_at(chart):
     """The least number of instructions behind which no state is left, or None."""
-    for number, states in enumerate(followed(chart, begin_states(chart))):
+    for number, states in enumerate(Steps(chart.island.rows).layers(chart.instructions, begin_states(chart))):
         if len(states) == 0:
             return number
     return None
@@ -32,15 +32,10 @@ def impossible_at(chart):
 def begins_to(chart, cell):
     """The ascending list of all states at the beginning from which one can come to a cell at the end."""
     require_land(chart.island, cell)
-    rows = chart.island.rows
-    layers = followed(chart, begin_states(chart))
-    leading = {state: True for state in layers[-1] if state[:2] == cell}
-    for index in reversed(range(len(chart))):
-        instruction = chart[index]
+    leading = {state: True for state in final_states(chart) if state[:2] == cell}
+    for table in step_tables(chart)[::-1]:
         leading = {
-            state: True
-            for state in layers[index]
-            if any([behind in leading for behind in led_to(rows, instruction, state)])
+            state: True for state, behind in table.items() if any([other in leading for other in behind])
         }
     return list(leading)
 
@@ -50,17 +45,17 @@ def ends_from(chart, state):
     # A state with True in place of 1 equals one at the beginning, but is none.
     if any([isinstance(part, bool) for part in state]) or state not in begin_states(chart):
         return []
-    return cells_of(followed(chart, [state])[-1])
+    return cells_of(Steps(chart.island.rows).ends(chart.instructions, [state]))
 
 
-def followed(chart, states):
-    """The list of the ascending lists of states behind 0, 1, 2 .. instructions, beginning in some states."""
-    rows = chart.island.rows
-    layers = [states]
-    for instruction in chart.instructions:
-        states = sorted({behind for state in states for behind in led_to(rows, instruction, state)})
-        layers.append(states)
-    return layers
+def step_tables(chart):
+    """For each instruction a dict from the states ahead of it, ascending, to the ascending lists of those behind."""
+    steps = Steps(chart.island.rows)
+    layers = steps.layers(chart.instructions, begin_states(chart))
+    return [
+        {state: steps.behind(instruction, state) for state in states}
+        for instruction, states in zip(chart.instructions, layers)
+    ]
 
 
 def cells_of(states):

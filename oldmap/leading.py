@@ -1,6 +1,5 @@
 """To which states an instruction leads from a state."""
 
-from oldmap.checks import WATER
 from oldmap.islands import LARGEST
 from oldmap.paces import facing_by, next_cell, paces_ahead, paces_along, sign_ahead, sign_at
 

@@ -23,6 +23,12 @@ def next_cell(state):
     return (row + ROW_STEPS[facing], column + COLUMN_STEPS[facing])
 
 
+def cells_beside(cell):
+    """The list of the next cells in all four directions, be they land or not."""
+    row, column = cell
+    return [next_cell((row, column, facing)) for facing in range(len(ROW_STEPS))]
+
+
 def sign_ahead(rows, state):
     """The sign of the next cell straight ahead."""
     row, column = next_cell(state)

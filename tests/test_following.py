@@ -2,30 +2,13 @@
 
 import unittest
 
-from helpers import raised
+from helpers import ALL_FACINGS, CHARTS, LETTERED, every_way, raised
 from oldmap.errors import UnknownCell
 from oldmap.following import begin_states, begins_to, ends_from, final_states, impossible_at, places
 from oldmap.islands import Island
 from oldmap.maps import Map
 
 ISLAND = Island(("..A", ".~.", "B.."))
-ALL_FACINGS = (0, 1, 2, 3)
-
-# Each cell has a letter of its own, so that a chart can begin in any single state.
-LETTERED = Island(("ABC~D", "E~FGH", "IJKLM", "~NOP~"))
-
-CHARTS = tuple(
-    Map(LETTERED, signs, facings, instructions)
-    for signs, facings, instructions in (
-        ("AKP", (0, 1), []),
-        ("AKP", ALL_FACINGS, [("walk", 0, 2), ("turn", (1, 3)), ("walk", 1, 2)]),
-        ("CEM", ALL_FACINGS, [("toward", "DGI"), ("until", "FHJL"), ("beside", 1, "~"), ("turn", (0, 2))]),
-        ("ABCDEFGHIJKLMNOP", ALL_FACINGS, [("shore", 3, 1, 3), ("near", "GO", 2), ("shore", 1, 0, 4)]),
-        ("ABCDEFGHIJKLMNOP", (2,), [("near", "~", 1), ("walk", 1, 1)] * 3),
-        ("J", (1,), [("walk", 3, 3), ("walk", 1, 1), ("turn", (0, 1))]),
-        ("QRS", ALL_FACINGS, [("walk", 0, 1)]),
-    )
-)
 
 
 def all_states(island):
@@ -36,24 +19,6 @@ def all_states(island):
         for column in range(-1, island.width + 1)
         for facing in range(-1, 5)
     ]
-
-
-def single_steps(island, instruction):
-    """For each state on the island those to which an instruction leads, by charts that begin in it alone."""
-    return {
-        (row, column, facing): final_states(Map(island, island[(row, column)], (facing,), [instruction]))
-        for row, column in island.cells
-        for facing in ALL_FACINGS
-    }
-
-
-def every_way(chart):
-    """All tuples of the states at the beginning and behind each instruction, one by one."""
-    found = [[state] for state in begin_states(chart)]
-    for instruction in chart.instructions:
-        steps = single_steps(chart.island, instruction)
-        found = [way + [behind] for way in found for behind in steps[way[-1]]]
-    return found
 
 
 def turned_state(island, state):

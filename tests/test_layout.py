@@ -21,7 +21,33 @@ INTERFACE = {
         "begins_to": ("chart", "cell"),
         "ends_from": ("chart", "state"),
     },
+    "oldmap.ways": {
+        "way_count": ("chart",),
+        "ways": ("chart",),
+        "way_at": ("chart", "number"),
+        "number_of": ("chart", "way"),
+        "weights": ("chart",),
+        "chance": ("chart", "cell"),
+        "likeliest": ("chart",),
+    },
+    "oldmap.crossing": {"crossed": ("chart", "cell"), "crossings": ("chart",)},
+    "oldmap.readings": {
+        "fewest_misread": ("chart",),
+        "places_misread": ("chart", "number"),
+        "misread_to": ("chart", "cell"),
+        "needless": ("chart",),
+        "sharpness": ("chart",),
+        "leanest": ("chart",),
+    },
+    "oldmap.walking": {
+        "distance": ("island", "one", "other"),
+        "route": ("island", "one", "other"),
+        "least_walk": ("island", "begin", "cells"),
+    },
 }
+
+# What the package may take from Python's library.
+LIBRARY = {"math": {"gcd"}}
 
 MEMBERS = {
     "Island": ("rows", "height", "width", "cells", "landmarks", "turned"),
@@ -29,10 +55,10 @@ MEMBERS = {
 }
 
 
-def imported(path):
-    """The files of the package that a file imports from."""
+def imports(path):
+    """All import statements of a file."""
     tree = ast.parse(path.read_text(encoding="utf-8"))
-    return [node.module for node in ast.walk(tree) if isinstance(node, ast.ImportFrom)]
+    return [node for node in ast.walk(tree) if isinstance(node, (ast.Import, ast.ImportFrom))]
 
 
 class Layout(unittest.TestCase):
@@ -53,7 +79,10 @@ class Layout(unittest.TestCase):
                         self.assertLessEqual(node.end_lineno - node.lineno + 1, 40)
 
     def test_imports(self):
-        known = {f"oldmap.{path.stem}": imported(path) for path in FILES}
+        known = {
+            f"oldmap.{path.stem}": [node.module for node in imports(path) if node.module not in LIBRARY]
+            for path in FILES
+        }
         for name, others in known.items():
             reached = []
             waiting = list(others)
@@ -64,6 +93,14 @@ class Layout(unittest.TestCase):
                     waiting.extend(known[other])
             with self.subTest(file=name):
                 self.assertNotIn(name, reached)
+
+    def test_imports_from_the_library(self):
+        for path in FILES:
+            for node in imports(path):
+                with self.subTest(path=path.name, line=node.lineno):
+                    self.assertIsInstance(node, ast.ImportFrom)
+                    if not node.module.startswith("oldmap."):
+                        self.assertLessEqual({name.name for name in node.names}, LIBRARY[node.module])
 
     def test_interface(self):
         for file, names in INTERFACE.items():
