@@ -25,22 +25,19 @@ def crossings(chart):
 
 
 def _word(surely, perhaps, cell):
-    mask = _mask([cell])
-    if surely & mask != 0:
+    if surely & _bit(cell) != 0:
         return "surely"
-    return "perhaps" if perhaps & mask != 0 else "never"
+    return "perhaps" if perhaps & _bit(cell) != 0 else "never"
 
 
-def _mask(cells):
-    mask = 0
-    for row, column in cells:
-        mask = mask | (1 << (row * LARGEST + column))
-    return mask
+def _bit(cell):
+    row, column = cell
+    return 1 << (row * LARGEST + column)
 
 
 def _crossed_masks(chart):
     """The cells over which all ways lead, and those over which some do."""
-    found = {state: (_mask([state[:2]]), _mask([state[:2]])) for state in begin_states(chart)}
+    found = {state: (_bit(state[:2]), _bit(state[:2])) for state in begin_states(chart)}
     for instruction in chart.instructions:
         found = _behind(chart.island.rows, instruction, found)
     if len(found) == 0:
@@ -69,12 +66,14 @@ def _shared(pairs):
 def _walked_masks(rows, instruction, state):
     """A list of tuples: each state to which an instruction leads from a state, and the cells walked over."""
     trail, least = _trail(rows, instruction, state)
-    found = []
-    for other in led_to(rows, instruction, state):
-        # The first one from the least number on, as only the fewest paces to one state count.
-        paces = trail.index(other, least) if other in trail else 0
-        found.append((other, _mask([walked[:2] for walked in trail[: paces + 1]])))
-    return found
+    masks = [_bit(state[:2])]
+    for walked in trail[1:]:
+        masks.append(masks[-1] | _bit(walked[:2]))
+    # The first one from the least number on, as only the fewest paces to one state count.
+    return [
+        (other, masks[trail.index(other, least) if other in trail else 0])
+        for other in led_to(rows, instruction, state)
+    ]
 
 
 def _trail(rows, instruction, state):

@@ -44,6 +44,30 @@ INTERFACE = {
         "route": ("island", "one", "other"),
         "least_walk": ("island", "begin", "cells"),
     },
+    "oldmap.land": {
+        "regions": ("island",),
+        "shore_cells": ("island",),
+        "needed_cells": ("island", "one", "other"),
+    },
+    "oldmap.digs": {
+        "hint": ("rule", "cell", "place"),
+        "left_after": ("island", "places", "rule", "digs"),
+        "first_wrong": ("island", "places", "rule", "digs"),
+        "next_dig": ("island", "places", "rule"),
+        "fewest_digs": ("island", "places", "rule"),
+    },
+    "oldmap.waits": {
+        "dig_walk": ("island", "begin", "cells"),
+        "weighed_walk": ("island", "begin", "weights"),
+    },
+    "oldmap.torn": {
+        "mended": ("chart", "gaps", "pool"),
+        "torn_places": ("chart", "gaps", "pool"),
+        "least_mending": ("chart", "gaps", "pool", "cell"),
+        "exchanged": ("chart", "one", "other"),
+        "leading_swaps": ("chart",),
+        "misread_turns": ("chart",),
+    },
 }
 
 # What the package may take from Python's library.
