@@ -68,21 +68,94 @@ INTERFACE = {
         "leading_swaps": ("chart",),
         "misread_turns": ("chart",),
     },
+    "oldmap.several": {
+        "common_places": ("charts",),
+        "joint_weights": ("charts",),
+        "most_agreeing": ("charts",),
+        "odd_one_out": ("charts",),
+    },
+    "oldmap.rounds": {
+        "states_after_rounds": ("chart", "count"),
+        "first_round": ("chart", "cell"),
+        "round_ways": ("chart", "count"),
+        "stays": ("chart",),
+    },
+    "oldmap.walkers": {"Walker": ("chart",)},
+    "oldmap.searches": {"Search": ("chart", "rule", "here"), "Trial": ("search",)},
 }
 
 # What the package may take from Python's library.
 LIBRARY = {"math": {"gcd"}}
 
+# The members that must stand in the body of a class itself: methods with their parameters, and properties with None.
 MEMBERS = {
-    "Island": ("rows", "height", "width", "cells", "landmarks", "turned"),
-    "Map": ("island", "signs", "facings", "instructions", "until", "without", "with_instructions", "turned"),
+    "Island": {
+        "rows": None,
+        "height": None,
+        "width": None,
+        "cells": None,
+        "landmarks": None,
+        "turned": ("self",),
+        "__eq__": ("self", "other"),
+        "__contains__": ("self", "cell"),
+        "__getitem__": ("self", "cell"),
+    },
+    "Map": {
+        "island": None,
+        "signs": None,
+        "facings": None,
+        "instructions": None,
+        "until": ("self", "number"),
+        "without": ("self", "indexes"),
+        "with_instructions": ("self", "instructions"),
+        "turned": ("self",),
+        "__eq__": ("self", "other"),
+        "__len__": ("self",),
+        "__getitem__": ("self", "index"),
+        "__add__": ("self", "other"),
+    },
+    "Walker": {
+        "step": ("self",),
+        "seen": ("self", "cells"),
+        "missed": ("self", "cells"),
+        "states_now": ("self",),
+        "begins_now": ("self",),
+        "ends_now": ("self",),
+        "done": None,
+        "records": None,
+    },
+    "Search": {
+        "dig": ("self", "told"),
+        "walk": ("self", "cell"),
+        "ask": ("self", "chart"),
+        "mark": ("self", "name"),
+        "go": ("self", "name"),
+        "undo": ("self",),
+        "redo": ("self",),
+        "apply_all": ("self", "operations"),
+        "tried": ("self", "operations", "keep"),
+        "here": None,
+        "paces_walked": None,
+        "places_left": None,
+        "marks": None,
+        "history": None,
+    },
+    "Trial": {"hold": ("self",), "__enter__": ("self",), "__exit__": ("self", "kind", "value", "trace")},
 }
+
+CLASS_METHODS = {"Search": {"replay": ("chart", "rule", "here", "operations")}}
 
 
 def imports(path):
     """All import statements of a file."""
     tree = ast.parse(path.read_text(encoding="utf-8"))
     return [node for node in ast.walk(tree) if isinstance(node, (ast.Import, ast.ImportFrom))]
+
+
+def interface_class(name):
+    """The class of the interface with a name."""
+    (file,) = [file for file, names in INTERFACE.items() if name in names]
+    return getattr(importlib.import_module(file), name)
 
 
 class Layout(unittest.TestCase):
@@ -134,8 +207,25 @@ class Layout(unittest.TestCase):
                     told = getattr(module, name)
                     self.assertEqual(told.__module__, file)
                     self.assertEqual(tuple(inspect.signature(told).parameters), arguments)
-                    for member in MEMBERS.get(name, ()):
-                        self.assertIn(member, vars(told))
+                    self.assertEqual(inspect.isclass(told), name in MEMBERS)
+
+    def test_members(self):
+        for name, members in MEMBERS.items():
+            own = vars(interface_class(name))
+            for member, arguments in members.items():
+                with self.subTest(name=name, member=member):
+                    if arguments is None:
+                        self.assertIsInstance(own[member], property)
+                    else:
+                        self.assertEqual(tuple(inspect.signature(own[member]).parameters), arguments)
+
+    def test_class_methods(self):
+        for name, members in CLASS_METHODS.items():
+            kind = interface_class(name)
+            for member, arguments in members.items():
+                with self.subTest(name=name, member=member):
+                    self.assertIsInstance(vars(kind)[member], classmethod)
+                    self.assertEqual(tuple(inspect.signature(getattr(kind, member)).parameters), arguments)
 
 
 if __name__ == "__main__":
