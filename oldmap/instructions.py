@@ -5,6 +5,17 @@ from oldmap.checks import ALL_SIGNS, LAND_SIGNS, ascending_numbers, ascending_si
 MOST_PACES = 20
 MOST_AWAY = 22
 
+# What belongs to each instruction, in order.
+PARTS = {
+    "turn": ("turns",),
+    "walk": ("number", "number"),
+    "until": ("land signs",),
+    "toward": ("land signs",),
+    "beside": ("number", "signs"),
+    "near": ("signs", "number"),
+    "shore": ("number", "number", "number"),
+}
+
 
 def is_instruction(instruction):
     """Whether all parts of an instruction are such as a chart can have."""

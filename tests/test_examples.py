@@ -21,7 +21,7 @@ def outcome(rows):
 class Examples(unittest.TestCase):
     def test_each_example(self):
         blocks = EXAMPLES.read_text(encoding="utf-8").strip().split("\n\n")
-        self.assertEqual(len(blocks), 29)
+        self.assertEqual(len(blocks), 36)
         for block in blocks:
             *rows, expected = block.split("\n")
             with self.subTest(block=block):

@@ -82,6 +82,14 @@ INTERFACE = {
     },
     "oldmap.walkers": {"Walker": ("chart",)},
     "oldmap.searches": {"Search": ("chart", "rule", "here"), "Trial": ("search",)},
+    "oldmap.notation": {"format_map": ("chart",), "parse_map": ("text",)},
+    "oldmap.pictures": {
+        "picture": ("chart",),
+        "crossed_picture": ("chart",),
+        "digs_picture": ("island", "places", "digs"),
+    },
+    "oldmap.codec": {"encode_map": ("chart",), "decode_map": ("values",)},
+    "oldmap.daybooks": {"Daybook": ("text",)},
 }
 
 # What the package may take from Python's library.
@@ -141,6 +149,7 @@ MEMBERS = {
         "history": None,
     },
     "Trial": {"hold": ("self",), "__enter__": ("self",), "__exit__": ("self", "kind", "value", "trace")},
+    "Daybook": {"search": ("self",), "results": None},
 }
 
 CLASS_METHODS = {"Search": {"replay": ("chart", "rule", "here", "operations")}}
