@@ -31,9 +31,13 @@ class Decoder:
         self._offset += 1
         return self._values[self._offset - 1]
 
+    def take_all(self, many, most):
+        """The list of so many items, from 0 to a greatest number."""
+        return [self.take(0, most) for _ in range(many)]
+
     def take_counted(self, most_items, most):
-        """The list of so many items from 0 on as the item ahead of them tells, at least one."""
-        return [self.take(0, most) for _ in range(self.take(1, most_items))]
+        """The list of as many items as the one ahead of them tells, at least one."""
+        return self.take_all(self.take(1, most_items), most)
 
     def finish(self):
         """Take the checksum, behind which there must be no item."""
@@ -63,7 +67,7 @@ def decode_map(values):
     decoder.take(FIRST_ITEM, FIRST_ITEM)
     height = decoder.take(1, LARGEST)
     width = decoder.take(1, LARGEST)
-    rows = [_signs([decoder.take(0, LAST_SIGN) for _ in range(width)]) for _ in range(height)]
+    rows = [_signs(decoder.take_all(width, LAST_SIGN)) for _ in range(height)]
     signs = _signs(decoder.take_counted(MOST_SIGNS, LAST_SIGN))
     facings = tuple(decoder.take_counted(MOST_FACINGS, LAST_FACING))
     instructions = [_instruction(decoder) for _ in range(decoder.take(0, MOST_INSTRUCTIONS))]
